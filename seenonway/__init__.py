@@ -1,0 +1,1 @@
+"""What's seen on the way: wanderers on nets of places that have no names."""

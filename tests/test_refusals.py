@@ -1,0 +1,90 @@
+import itertools
+import unittest
+
+import samples
+from seenonway.nets import exits, walk
+
+LONG_WORDS = ([0] * 31, [1] * 31, [0] * 32, [1] * 32, [samples.GREATEST] * 32)
+
+
+class NoNet(unittest.TestCase):
+    def test_each_way_to_be_no_net(self):
+        for why, (n, net) in samples.NO_NETS.items():
+            with self.subTest(why):
+                self.assertEqual(exits(n, 0, net), [-22])
+                self.assertEqual(walk(n, 0, net, []), [-22])
+                self.assertEqual(walk(n, 0, net, [1, 0]), [-22])
+
+    def test_numbers_of_places(self):
+        chain = [0, 1, 1, 2, 2, 3, 3, 4, 4, 5, 5, 6, 6, 7, 7, 8]
+        for n in range(10):
+            net = chain[:max(0, 2 * (n - 1))]
+            good = 1 <= n <= 7
+            self.assertEqual(exits(n, 0, net)[0] != -22, good, n)
+            self.assertEqual(walk(n, 0, net, []), [1, 0] if good else [-22], n)
+
+    def test_ten_links_are_a_net_and_eleven_are_not(self):
+        self.assertEqual(exits(7, 0, samples.SEVEN[1])[0], 3)
+        self.assertEqual(exits(7, 0, samples.ELEVEN_LINKS), [-22])
+        self.assertEqual(walk(7, 4, samples.SEVEN[1], [1]), [2, 4, 3])
+        self.assertEqual(walk(7, 4, samples.ELEVEN_LINKS, [1]), [-22])
+
+    def test_all_short_lists_by_the_words(self):
+        for n in range(5):
+            for size in range(7):
+                for net in map(list, itertools.product(range(4), repeat=size)):
+                    good = samples.is_net_by_words(n, net)
+                    self.assertEqual(exits(n, 0, net) != [-22], good, (n, net))
+                    self.assertEqual(walk(n, 0, net, []), [1, 0] if good else [-22], (n, net))
+
+    def test_every_set_of_four_and_five_links_among_five_places(self):
+        possible = list(itertools.combinations(range(5), 2))
+        for size in (4, 5):
+            for links in itertools.combinations(possible, size):
+                net = list(itertools.chain.from_iterable(links))
+                good = samples.is_net_by_words(5, net)
+                self.assertEqual(exits(5, 0, net) != [-22], good, net)
+
+
+class NoPlace(unittest.TestCase):
+    def test_place_that_there_is_not(self):
+        for n, net in samples.ORDINARY:
+            for u in (n, n + 1, 7, 8, 2 ** 31, samples.GREATEST):
+                if u < n:
+                    continue
+                self.assertEqual(exits(n, u, net), [-2])
+                self.assertEqual(walk(n, u, net, []), [-2])
+                self.assertEqual(walk(n, u, net, [1]), [-2])
+
+
+class LongWord(unittest.TestCase):
+    def test_31_and_32_letters(self):
+        for n, net in samples.ORDINARY:
+            for u in range(n):
+                for word in LONG_WORDS:
+                    self.assertEqual(walk(n, u, net, word), [-22])
+                self.assertEqual(walk(n, u, net, [0] * 30), [31] + [u] * 31)
+
+
+class SeveralAreDue(unittest.TestCase):
+    def test_no_net_is_told_ahead_of_no_place(self):
+        for n, net in samples.NO_NETS.values():
+            for u in (n, samples.GREATEST):
+                self.assertEqual(exits(n, u, net), [-22])
+                self.assertEqual(walk(n, u, net, [1]), [-22])
+
+    def test_no_place_is_told_ahead_of_a_long_word(self):
+        for n, net in samples.ORDINARY:
+            for word in LONG_WORDS:
+                self.assertEqual(walk(n, n, net, word), [-2])
+                self.assertEqual(walk(n, samples.GREATEST, net, word), [-2])
+
+    def test_no_net_with_a_long_word_and_with_all(self):
+        for n, net in samples.NO_NETS.values():
+            for word in LONG_WORDS:
+                self.assertEqual(walk(n, 0, net, word), [-22])
+                self.assertEqual(walk(n, samples.GREATEST, net, word), [-22])
+
+
+if __name__ == "__main__":
+    unittest.main()
