@@ -1,7 +1,7 @@
-"""Nets of places, their exits, and the walks on them.
+"""Nets of places, their exits, the walks on them, what's seen on the way, and which places that tells apart.
 
 A net is told as a flat list: of each link both places, link behind link.
-Every answer is one list: a number, then what belongs to it; a refusal stands alone.
+Every answer is one list: a number, then what belongs to it; a number below 0 stands alone.
 """
 
 MOST_PLACES = 7
@@ -12,6 +12,7 @@ NOT_A_NET = -22
 NO_SUCH_PLACE = -2
 WORD_TOO_LONG = -22
 NO_REFUSAL = 0
+ALIKE = -6
 
 
 def links_of(net):
@@ -80,6 +81,12 @@ def refusal_of_place(n, u, net):
     return NO_REFUSAL
 
 
+def refusal_of_places(n, u, v, net):
+    """The refusal that is due for a net and two places of it, or NO_REFUSAL."""
+    # The refusal doesn't tell which of the two there isn't: if the greater is there, both are.
+    return refusal_of_place(n, max(u, v), net)
+
+
 def refusal_of_walk(n, u, net, word):
     """The refusal that is due for a net, a place of it and a word, or NO_REFUSAL."""
     refusal = refusal_of_place(n, u, net)
@@ -89,12 +96,47 @@ def refusal_of_walk(n, u, net, word):
     return refusal
 
 
-def place_after(table, place, letter):
-    """The place in which one is after a letter."""
+def after_letter(table, place, letter):
+    """The place in which one is after a letter, and one more than the exit by which one came in (0, if one stayed)."""
     own_exits = table[place]
     if letter == 0 or letter > len(own_exits):
-        return place
-    return own_exits[letter - 1][0]
+        return (place, 0)
+    taken = own_exits[letter - 1]
+    return (taken[0], taken[1] + 1)
+
+
+def least_with_the_same(sights):
+    """Of each place the least place with the same sight; sights tells the sight of each place."""
+    return [sights.index(sight) for sight in sights]
+
+
+def groups_at_once(table):
+    """Of each place the least place that isn't told apart from it in 0 steps."""
+    return least_with_the_same([len(own_exits) for own_exits in table])
+
+
+def groups_one_step_on(table, groups):
+    """Of each place the least place that isn't told apart from it in one step more than groups is for."""
+    # There are as many pairs in a sight as exits, so who was told apart before is so again; and a letter by which
+    # one stays shows nothing that one step fewer doesn't show.
+    sights = []
+    for own_exits in table:
+        sights.append([(entry, groups[place]) for place, entry in own_exits])
+    return least_with_the_same(sights)
+
+
+def steps_apart(table, u, v):
+    """In how many steps u and v are told apart, at least, or ALIKE."""
+    groups = groups_at_once(table)
+    steps = 0
+    while groups[u] == groups[v]:
+        finer = groups_one_step_on(table, groups)
+        # What one step more leaves as it is, is left so by every further one too.
+        if finer == groups:
+            return ALIKE
+        groups = finer
+        steps += 1
+    return steps
 
 
 def exits(n, u, net):
@@ -119,6 +161,30 @@ def walk(n, u, net, word):
     place = u
     answer = [len(word) + 1, place]
     for letter in word:
-        place = place_after(table, place, letter)
+        place = after_letter(table, place, letter)[0]
         answer.append(place)
     return answer
+
+
+def seen(n, u, net, word):
+    """How many numbers are seen by a word, from u on; then these."""
+    refusal = refusal_of_walk(n, u, net, word)
+    if refusal != NO_REFUSAL:
+        return [refusal]
+    table = exit_table(n, links_of(net))
+    place = u
+    answer = [1 + 2 * len(word), len(table[place])]
+    for letter in word:
+        arrival = after_letter(table, place, letter)
+        place = arrival[0]
+        answer.append(arrival[1])
+        answer.append(len(table[place]))
+    return answer
+
+
+def apart(n, u, v, net):
+    """In how many steps u and v are told apart, at least; -6 if they're alike."""
+    refusal = refusal_of_places(n, u, v, net)
+    if refusal != NO_REFUSAL:
+        return [refusal]
+    return [steps_apart(exit_table(n, links_of(net)), u, v)]

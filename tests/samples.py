@@ -13,6 +13,18 @@ FULL_FIVE = (5, [0, 1, 0, 2, 0, 3, 0, 4, 1, 2, 1, 3, 1, 4, 2, 3, 2, 4, 3, 4])
 ONE = (1, [])
 ORDINARY = (LINK, CHAIN, RING, STAR, SEVEN, FULL_FIVE, ONE)
 
+# A chain and rings told in such an order that places of them are alike.
+MIRRORED_CHAIN = (4, [0, 1, 3, 2, 1, 2])
+ALL_ALIKE_RING = (4, [0, 1, 2, 3, 1, 2, 3, 0])
+ALL_ALIKE_RING_OF_SIX = (6, [0, 1, 2, 3, 4, 5, 1, 2, 3, 4, 5, 0])
+OPPOSITE_ALIKE_RING = (6, [0, 1, 3, 4, 1, 2, 4, 5, 2, 3, 5, 0])
+WITH_ALIKE_PLACES = (LINK, MIRRORED_CHAIN, ALL_ALIKE_RING, ALL_ALIKE_RING_OF_SIX, OPPOSITE_ALIKE_RING)
+
+# Nets that take some steps: a ring without a mark near by, and a chain of which only the middle tells both ends apart.
+RING_OF_SEVEN = (7, [0, 1, 1, 2, 2, 3, 3, 4, 4, 5, 5, 6, 6, 0])
+LATE_CHAIN = (7, [0, 1, 1, 2, 2, 3, 5, 6, 4, 5, 3, 4])
+SPECIAL = WITH_ALIKE_PLACES + (RING_OF_SEVEN, LATE_CHAIN)
+
 # Ten links among 7 places, and an eleventh and a twelfth that would be sound by themselves.
 ELEVEN_LINKS = SEVEN[1] + [0, 2]
 TWELVE_LINKS = ELEVEN_LINKS + [1, 3]
@@ -87,6 +99,57 @@ def walk_by_words(net, u, word):
         choices = dict(enumerate((place for place, entry in exits_by_words(net, places[-1])), start=1))
         places.append(choices.get(letter, places[-1]))
     return places
+
+
+def seen_by_words(net, u, word):
+    links = pairs(net)
+    places = walk_by_words(net, u, word)
+    told_at = {place: [set(link) for link in links if place in link] for place in places}
+    numbers = [len(told_at[u])]
+    for before, place in zip(places, places[1:]):
+        # No link leads from a place to itself, so who is where one was has stayed.
+        came_in = 0 if place == before else 1 + told_at[place].index({before, place})
+        numbers += [came_in, len(told_at[place])]
+    return numbers
+
+
+def apart_by_pairs(net, u, v):
+    """In how few steps u and v are told apart (None: never); both are walked side by side, by every letter."""
+    ways = {}
+    met = {(u, v)}
+    level = [(u, v)]
+    steps = 0
+    while level:
+        for place in set(itertools.chain.from_iterable(level)):
+            ways.setdefault(place, exits_by_words(net, place))
+        if any(len(ways[a]) != len(ways[b]) for a, b in level):
+            return steps
+        onward = [way for a, b in level for way in zip(ways[a], ways[b])]
+        if any(one[1] != other[1] for one, other in onward):
+            return steps + 1
+        level = sorted({(one[0], other[0]) for one, other in onward} - met)
+        met.update(level)
+        steps += 1
+    return None
+
+
+def words_up_to(most, letters):
+    """All words of at most so many letters, the shorter ones first."""
+    for size in range(most + 1):
+        for word in itertools.product(letters, repeat=size):
+            yield list(word)
+
+
+def reordered_nets():
+    """Nets of six and seven places, with their links told in many orders."""
+    for n, net in (RING_OF_SEVEN, LATE_CHAIN, OPPOSITE_ALIKE_RING):
+        for links in itertools.islice(itertools.permutations(pairs(net)), 0, None, 31):
+            yield n, list(itertools.chain.from_iterable(links))
+    n, net = SEVEN
+    links = pairs(net)
+    for stride in range(1, 11):
+        # The ten multiples of stride are all different modulo 11, so each link is told once.
+        yield n, list(itertools.chain.from_iterable(links[k * stride % 11 - 1] for k in range(1, 11)))
 
 
 def small_nets():

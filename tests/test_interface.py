@@ -9,7 +9,7 @@ import unittest
 
 import samples
 from seenonway import nets
-from seenonway.nets import exits, walk
+from seenonway.nets import apart, exits, seen, walk
 
 PACKAGE = pathlib.Path(__file__).resolve().parent.parent / "seenonway"
 WORDS = ([], [1, 2, 0, 9], [1] * 30, [1] * 31, [2] * 32)
@@ -17,21 +17,29 @@ WORDS = ([], [1, 2, 0, 9], [1] * 30, [1] * 31, [2] * 32)
 
 def calls():
     """Of many calls, good and refused: the function, and what is handed in."""
-    for n, net in list(samples.ORDINARY) + list(samples.NO_NETS.values()):
-        for u in range(min(n, 8) + 1):
+    for n, net in list(samples.ORDINARY + samples.SPECIAL) + list(samples.NO_NETS.values()):
+        places = range(min(n, 8) + 1)
+        for u in places:
             yield exits, (n, u, net)
             for word in WORDS:
                 yield walk, (n, u, net, word)
+                yield seen, (n, u, net, word)
+            for v in places:
+                yield apart, (n, u, v, net)
 
 
 class Kinds(unittest.TestCase):
     def test_arguments(self):
         self.assertEqual(list(inspect.signature(nets.exits).parameters), ["n", "u", "net"])
         self.assertEqual(list(inspect.signature(nets.walk).parameters), ["n", "u", "net", "word"])
+        self.assertEqual(list(inspect.signature(nets.seen).parameters), ["n", "u", "net", "word"])
+        self.assertEqual(list(inspect.signature(nets.apart).parameters), ["n", "u", "v", "net"])
 
     def test_by_name(self):
         self.assertEqual(exits(n=2, u=0, net=[0, 1]), [1, 1, 0])
         self.assertEqual(walk(n=2, u=0, net=[0, 1], word=[1]), [2, 0, 1])
+        self.assertEqual(seen(n=2, u=0, net=[0, 1], word=[1]), [3, 1, 1, 1])
+        self.assertEqual(apart(n=3, u=0, v=1, net=[0, 1, 1, 2]), [0])
 
     def test_answers_are_lists_of_int(self):
         for function, given in calls():
@@ -42,7 +50,7 @@ class Kinds(unittest.TestCase):
     def test_lengths_of_answers(self):
         for function, given in calls():
             answer = function(*given)
-            if answer[0] < 0:
+            if answer[0] < 0 or function is apart:
                 self.assertEqual(len(answer), 1)
             elif function is exits:
                 self.assertEqual(len(answer), 1 + 2 * answer[0])
@@ -64,7 +72,7 @@ class NothingChangedNothingKept(unittest.TestCase):
 
     def test_answer_is_not_what_was_handed_in(self):
         net, word = [0, 1], [1]
-        for answer in (exits(2, 0, net), walk(2, 0, net, word)):
+        for answer in (exits(2, 0, net), walk(2, 0, net, word), seen(2, 0, net, word), apart(2, 0, 1, net)):
             answer.append(7)
         self.assertEqual((net, word), ([0, 1], [1]))
 
