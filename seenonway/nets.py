@@ -1,4 +1,4 @@
-"""Nets of places, their exits, the walks on them, what's seen on the way, and which places that tells apart.
+"""Nets of places, the ways on them, what's seen on the way, which places that tells apart, and which are alike.
 
 A net is told as a flat list: of each link both places, link behind link.
 Every answer is one list: a number, then what belongs to it; a number below 0 stands alone.
@@ -46,17 +46,25 @@ def exit_table(n, links):
     return table
 
 
-def all_hang_together(table):
-    """Whether every place of a table of at least one place is reached from place 0."""
-    reached = [0]
+def steps_from(table, start):
+    """Of each place that is reached from start: how few steps lead there."""
+    steps = {start: 0}
+    reached = [start]
     looked_at = 0
+    # The nearer places are looked at first, so a place is met by the fewest steps that lead there.
     while looked_at < len(reached):
-        own_exits = table[reached[looked_at]]
-        for place, entry in own_exits:
-            if place not in reached:
+        here = reached[looked_at]
+        for place, entry in table[here]:
+            if place not in steps:
+                steps[place] = steps[here] + 1
                 reached.append(place)
         looked_at += 1
-    return len(reached) == len(table)
+    return steps
+
+
+def all_hang_together(table):
+    """Whether every place of a table of at least one place is reached from place 0."""
+    return len(steps_from(table, 0)) == len(table)
 
 
 def is_net(n, net):
@@ -125,18 +133,28 @@ def groups_one_step_on(table, groups):
     return least_with_the_same(sights)
 
 
+def groups_by_steps(table):
+    """The groups in 0 steps, in 1 step and so on, up to those that no further step changes."""
+    told = [groups_at_once(table)]
+    finer = groups_one_step_on(table, told[0])
+    # What one step more leaves as it is, is left so by every further one too.
+    while finer != told[-1]:
+        told.append(finer)
+        finer = groups_one_step_on(table, finer)
+    return told
+
+
 def steps_apart(table, u, v):
     """In how many steps u and v are told apart, at least, or ALIKE."""
-    groups = groups_at_once(table)
-    steps = 0
-    while groups[u] == groups[v]:
-        finer = groups_one_step_on(table, groups)
-        # What one step more leaves as it is, is left so by every further one too.
-        if finer == groups:
-            return ALIKE
-        groups = finer
-        steps += 1
-    return steps
+    for steps, groups in enumerate(groups_by_steps(table)):
+        if groups[u] != groups[v]:
+            return steps
+    return ALIKE
+
+
+def class_of_each(table):
+    """Of each place its class: the least place that's alike."""
+    return groups_by_steps(table)[-1]
 
 
 def exits(n, u, net):
@@ -188,3 +206,18 @@ def apart(n, u, v, net):
     if refusal != NO_REFUSAL:
         return [refusal]
     return [steps_apart(exit_table(n, links_of(net)), u, v)]
+
+
+def classes(n, net):
+    """How many places there are; then the class of each."""
+    if not is_net(n, net):
+        return [NOT_A_NET]
+    return [n] + class_of_each(exit_table(n, links_of(net)))
+
+
+def distance(n, u, v, net):
+    """How few steps lead from u to v."""
+    refusal = refusal_of_places(n, u, v, net)
+    if refusal != NO_REFUSAL:
+        return [refusal]
+    return [steps_from(exit_table(n, links_of(net)), u)[v]]

@@ -18,7 +18,13 @@ MIRRORED_CHAIN = (4, [0, 1, 3, 2, 1, 2])
 ALL_ALIKE_RING = (4, [0, 1, 2, 3, 1, 2, 3, 0])
 ALL_ALIKE_RING_OF_SIX = (6, [0, 1, 2, 3, 4, 5, 1, 2, 3, 4, 5, 0])
 OPPOSITE_ALIKE_RING = (6, [0, 1, 3, 4, 1, 2, 4, 5, 2, 3, 5, 0])
-WITH_ALIKE_PLACES = (LINK, MIRRORED_CHAIN, ALL_ALIKE_RING, ALL_ALIKE_RING_OF_SIX, OPPOSITE_ALIKE_RING)
+# Four places, each linked with each, and three linked with three others: told link by link so that all are alike.
+ALL_ALIKE_FOUR = (4, [0, 1, 2, 3, 0, 2, 1, 3, 0, 3, 1, 2])
+ALL_ALIKE_THREE_BY_THREE = (6, [0, 3, 1, 4, 2, 5, 0, 4, 1, 5, 2, 3, 0, 5, 1, 3, 2, 4])
+# Two triangles with a link between them; of each triangle one place has three exits.
+TWO_TRIANGLES = (6, [0, 4, 5, 2, 4, 1, 2, 3, 1, 0, 3, 5, 0, 5])
+WITH_ALIKE_PLACES = (LINK, MIRRORED_CHAIN, ALL_ALIKE_RING, ALL_ALIKE_RING_OF_SIX, OPPOSITE_ALIKE_RING,
+                     ALL_ALIKE_FOUR, ALL_ALIKE_THREE_BY_THREE, TWO_TRIANGLES)
 
 # Nets that take some steps: a ring without a mark near by, and a chain of which only the middle tells both ends apart.
 RING_OF_SEVEN = (7, [0, 1, 1, 2, 2, 3, 3, 4, 4, 5, 5, 6, 6, 0])
@@ -133,11 +139,35 @@ def apart_by_pairs(net, u, v):
     return None
 
 
+def classes_by_pairs(n, net):
+    """Of each place the least that is never told apart from it."""
+    return [next(u for u in range(n) if apart_by_pairs(net, u, v) is None) for v in range(n)]
+
+
+def distances_by_words(n, net):
+    """Of each two places how few links lead from the one to the other: by way of more and more places between."""
+    far = n + 1
+    steps = [[0 if u == v else far for v in range(n)] for u in range(n)]
+    for a, b in pairs(net):
+        steps[a][b] = steps[b][a] = 1
+    for between, u, v in itertools.product(range(n), repeat=3):
+        steps[u][v] = min(steps[u][v], steps[u][between] + steps[between][v])
+    return steps
+
+
 def words_up_to(most, letters):
     """All words of at most so many letters, the shorter ones first."""
     for size in range(most + 1):
         for word in itertools.product(letters, repeat=size):
             yield list(word)
+
+
+def many_nets():
+    return list(small_nets()) + list(reordered_nets()) + list(ORDINARY + SPECIAL)
+
+
+def all_pairs(n):
+    return [(u, v) for u in range(n) for v in range(n)]
 
 
 def reordered_nets():

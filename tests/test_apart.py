@@ -6,16 +6,8 @@ from seenonway.nets import apart, exits, seen, walk
 ALIKE = -6
 
 
-def all_pairs(n):
-    return [(u, v) for u in range(n) for v in range(n)]
-
-
 def alike_pairs(n, net):
-    return [(u, v) for u, v in all_pairs(n) if apart(n, u, v, net) == [ALIKE]]
-
-
-def many_nets():
-    return list(samples.small_nets()) + list(samples.reordered_nets()) + list(samples.ORDINARY + samples.SPECIAL)
+    return [(u, v) for u, v in samples.all_pairs(n) if apart(n, u, v, net) == [ALIKE]]
 
 
 def first_difference(n, net, u, v, most, letters):
@@ -29,7 +21,7 @@ def first_difference(n, net, u, v, most, letters):
 class Told(unittest.TestCase):
     def check(self, told, rows):
         n, net = told
-        for u, v in all_pairs(n):
+        for u, v in samples.all_pairs(n):
             self.assertEqual(apart(n, u, v, net), [rows[u][v]], (u, v))
 
 
@@ -131,21 +123,21 @@ class WhatHolds(unittest.TestCase):
         for n, net in samples.small_nets():
             # Letters for exits that there aren't are among these.
             letters = range(n + 1)
-            for u, v in all_pairs(n):
+            for u, v in samples.all_pairs(n):
                 difference = first_difference(n, net, u, v, 3, letters)
                 expected = ALIKE if difference is None else difference
                 self.assertEqual(apart(n, u, v, net), [expected], (n, u, v, net))
 
     def test_a_on_nets_that_take_some_steps(self):
         for n, net in (samples.RING_OF_SEVEN, samples.LATE_CHAIN, samples.OPPOSITE_ALIKE_RING):
-            for u, v in all_pairs(n):
+            for u, v in samples.all_pairs(n):
                 difference = first_difference(n, net, u, v, 4, range(3))
                 expected = ALIKE if difference is None else difference
                 self.assertEqual(apart(n, u, v, net), [expected], (n, u, v, net))
 
     def test_b_who_is_not_told_apart_in_fewer_steps_than_twice_the_places_never_is(self):
-        for n, net in many_nets():
-            for u, v in all_pairs(n):
+        for n, net in samples.many_nets():
+            for u, v in samples.all_pairs(n):
                 self.assertIn(apart(n, u, v, net)[0], [ALIKE] + list(range(2 * n)))
 
     def test_b_by_every_word_of_fewer_letters_than_twice_the_places(self):
@@ -167,7 +159,7 @@ class WhatHolds(unittest.TestCase):
                     self.assertEqual(seen(n, u, net, word), seen(n, v, net, word))
 
     def test_c_alike_places_lead_by_like_letters_to_alike_ones(self):
-        for n, net in many_nets():
+        for n, net in samples.many_nets():
             for u, v in alike_pairs(n, net):
                 for letter in (0, 1, 2, 3, 4, samples.GREATEST):
                     after_u = walk(n, u, net, [letter])[-1]
@@ -177,20 +169,20 @@ class WhatHolds(unittest.TestCase):
 
 class ByTheWords(unittest.TestCase):
     def test_against_walking_side_by_side(self):
-        for n, net in many_nets():
-            for u, v in all_pairs(n):
+        for n, net in samples.many_nets():
+            for u, v in samples.all_pairs(n):
                 steps = samples.apart_by_pairs(net, u, v)
                 self.assertEqual(apart(n, u, v, net), [ALIKE if steps is None else steps], (n, u, v, net))
 
     def test_the_same_both_ways_round(self):
         for n, net in samples.ORDINARY + samples.SPECIAL:
-            for u, v in all_pairs(n):
+            for u, v in samples.all_pairs(n):
                 self.assertEqual(apart(n, u, v, net), apart(n, v, u, net))
 
     def test_places_have_no_names(self):
         for n, net in samples.ORDINARY + samples.SPECIAL:
             renamed = [n - 1 - place for place in net]
-            for u, v in all_pairs(n):
+            for u, v in samples.all_pairs(n):
                 self.assertEqual(apart(n, n - 1 - u, n - 1 - v, renamed), apart(n, u, v, net))
 
 

@@ -2,7 +2,7 @@ import itertools
 import unittest
 
 import samples
-from seenonway.nets import apart, exits, seen, walk
+from seenonway.nets import apart, classes, distance, exits, seen, walk
 
 LONG_WORDS = ([0] * 31, [1] * 31, [0] * 32, [1] * 32, [samples.GREATEST] * 32)
 
@@ -18,6 +18,9 @@ class NoNet(unittest.TestCase):
                 self.assertEqual(seen(n, 0, net, [1, 0]), [-22])
                 self.assertEqual(apart(n, 0, 0, net), [-22])
                 self.assertEqual(apart(n, 0, 1, net), [-22])
+                self.assertEqual(classes(n, net), [-22])
+                self.assertEqual(distance(n, 0, 0, net), [-22])
+                self.assertEqual(distance(n, 0, 1, net), [-22])
 
     def test_numbers_of_places(self):
         chain = [0, 1, 1, 2, 2, 3, 3, 4, 4, 5, 5, 6, 6, 7, 7, 8]
@@ -28,6 +31,8 @@ class NoNet(unittest.TestCase):
             self.assertEqual(walk(n, 0, net, []), [1, 0] if good else [-22], n)
             self.assertEqual(seen(n, 0, net, []), [1, min(1, n - 1)] if good else [-22], n)
             self.assertEqual(apart(n, 0, 0, net), [-6] if good else [-22], n)
+            self.assertEqual(classes(n, net)[0], n if good else -22, n)
+            self.assertEqual(distance(n, 0, max(n - 1, 0), net), [n - 1] if good else [-22], n)
 
     def test_ten_links_are_a_net_and_eleven_are_not(self):
         self.assertEqual(exits(7, 0, samples.SEVEN[1])[0], 3)
@@ -38,6 +43,10 @@ class NoNet(unittest.TestCase):
         self.assertEqual(seen(7, 4, samples.ELEVEN_LINKS, [1]), [-22])
         self.assertEqual(apart(7, 4, 5, samples.SEVEN[1]), [0])
         self.assertEqual(apart(7, 4, 5, samples.ELEVEN_LINKS), [-22])
+        self.assertEqual(classes(7, samples.SEVEN[1])[0], 7)
+        self.assertEqual(classes(7, samples.ELEVEN_LINKS), [-22])
+        self.assertEqual(distance(7, 0, 2, samples.SEVEN[1]), [2])
+        self.assertEqual(distance(7, 0, 2, samples.ELEVEN_LINKS), [-22])
 
     def test_all_short_lists_by_the_words(self):
         for n in range(5):
@@ -48,6 +57,8 @@ class NoNet(unittest.TestCase):
                     self.assertEqual(walk(n, 0, net, []), [1, 0] if good else [-22], (n, net))
                     self.assertEqual(seen(n, 0, net, []) != [-22], good, (n, net))
                     self.assertEqual(apart(n, 0, 0, net), [-6] if good else [-22], (n, net))
+                    self.assertEqual(classes(n, net)[:2], [n, 0] if good else [-22], (n, net))
+                    self.assertEqual(distance(n, 0, 0, net), [0] if good else [-22], (n, net))
 
     def test_every_set_of_four_and_five_links_among_five_places(self):
         possible = list(itertools.combinations(range(5), 2))
@@ -56,6 +67,8 @@ class NoNet(unittest.TestCase):
                 net = list(itertools.chain.from_iterable(links))
                 good = samples.is_net_by_words(5, net)
                 self.assertEqual(exits(5, 0, net) != [-22], good, net)
+                self.assertEqual(classes(5, net) != [-22], good, net)
+                self.assertEqual(distance(5, 0, 4, net) != [-22], good, net)
 
 
 class NoPlace(unittest.TestCase):
@@ -74,11 +87,12 @@ class NoPlace(unittest.TestCase):
     def test_one_of_two_places_or_both(self):
         for n, net in samples.ORDINARY:
             for beyond in self.places_beyond(n):
-                for place in range(n):
-                    self.assertEqual(apart(n, beyond, place, net), [-2])
-                    self.assertEqual(apart(n, place, beyond, net), [-2])
-                self.assertEqual(apart(n, beyond, beyond, net), [-2])
-                self.assertEqual(apart(n, beyond, n, net), [-2])
+                for function in (apart, distance):
+                    for place in range(n):
+                        self.assertEqual(function(n, beyond, place, net), [-2])
+                        self.assertEqual(function(n, place, beyond, net), [-2])
+                    self.assertEqual(function(n, beyond, beyond, net), [-2])
+                    self.assertEqual(function(n, beyond, n, net), [-2])
 
 
 class LongWord(unittest.TestCase):
@@ -99,9 +113,10 @@ class SeveralAreDue(unittest.TestCase):
                 self.assertEqual(exits(n, u, net), [-22])
                 self.assertEqual(walk(n, u, net, [1]), [-22])
                 self.assertEqual(seen(n, u, net, [1]), [-22])
-                self.assertEqual(apart(n, u, 0, net), [-22])
-                self.assertEqual(apart(n, 0, u, net), [-22])
-                self.assertEqual(apart(n, u, u, net), [-22])
+                for function in (apart, distance):
+                    self.assertEqual(function(n, u, 0, net), [-22])
+                    self.assertEqual(function(n, 0, u, net), [-22])
+                    self.assertEqual(function(n, u, u, net), [-22])
 
     def test_no_place_is_told_ahead_of_a_long_word(self):
         for n, net in samples.ORDINARY:
