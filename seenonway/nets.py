@@ -1,5 +1,6 @@
 """Nets of places, the ways on them, what's seen on the way, which places that tells apart, and which are alike.
 
+Two places, of one net or of two, are alike if by no word something else is seen from the one than from the other.
 A net is told as a flat list: of each link both places, link behind link.
 Every answer is one list: a number, then what belongs to it; a number below 0 stands alone.
 """
@@ -95,6 +96,16 @@ def refusal_of_places(n, u, v, net):
     return refusal_of_place(n, max(u, v), net)
 
 
+def refusal_of_two(n, m, u, v, net, second):
+    """The refusal that is due for two nets, a place u of the first and a place v of the second, or NO_REFUSAL."""
+    # Both nets are told ahead of both places, so a second that is none wins over a place u that there isn't.
+    if not is_net(n, net) or not is_net(m, second):
+        return NOT_A_NET
+    if u >= n or v >= m:
+        return NO_SUCH_PLACE
+    return NO_REFUSAL
+
+
 def refusal_of_walk(n, u, net, word):
     """The refusal that is due for a net, a place of it and a word, or NO_REFUSAL."""
     refusal = refusal_of_place(n, u, net)
@@ -155,6 +166,14 @@ def steps_apart(table, u, v):
 def class_of_each(table):
     """Of each place its class: the least place that's alike."""
     return groups_by_steps(table)[-1]
+
+
+def side_by_side(table, second_table):
+    """Both tables as one, in which the places of the second are numbered on behind those of the first."""
+    both = list(table)
+    for own_exits in second_table:
+        both.append([(place + len(table), entry) for place, entry in own_exits])
+    return both
 
 
 def exits(n, u, net):
@@ -221,3 +240,30 @@ def distance(n, u, v, net):
     if refusal != NO_REFUSAL:
         return [refusal]
     return [steps_from(exit_table(n, links_of(net)), u)[v]]
+
+
+def two(n, m, u, v, net, second):
+    """In how many steps place u of the net and v of the second are told apart, at least; -6 if they're alike."""
+    refusal = refusal_of_two(n, m, u, v, net, second)
+    if refusal != NO_REFUSAL:
+        return [refusal]
+    both = side_by_side(exit_table(n, links_of(net)), exit_table(m, links_of(second)))
+    return [steps_apart(both, u, n + v)]
+
+
+def least(n, net):
+    """How many classes there are; then of each its least place, how many exits that has, and of each exit the class
+    of the place to which it leads, and by which exit of that one one comes in."""
+    if not is_net(n, net):
+        return [NOT_A_NET]
+    table = exit_table(n, links_of(net))
+    class_of = class_of_each(table)
+    least_places = [place for place in range(n) if class_of[place] == place]
+    answer = [len(least_places)]
+    for least_place in least_places:
+        answer.append(least_place)
+        answer.append(len(table[least_place]))
+        for place, entry in table[least_place]:
+            answer.append(class_of[place])
+            answer.append(entry)
+    return answer

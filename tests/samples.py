@@ -26,6 +26,16 @@ TWO_TRIANGLES = (6, [0, 4, 5, 2, 4, 1, 2, 3, 1, 0, 3, 5, 0, 5])
 WITH_ALIKE_PLACES = (LINK, MIRRORED_CHAIN, ALL_ALIKE_RING, ALL_ALIKE_RING_OF_SIX, OPPOSITE_ALIKE_RING,
                      ALL_ALIKE_FOUR, ALL_ALIKE_THREE_BY_THREE, TWO_TRIANGLES)
 
+# Of this ring OPPOSITE_ALIKE_RING is twice: each link of the one is told as two of the other.
+RING_OF_THREE = (3, [0, 1, 1, 2, 2, 0])
+
+# Chains, and rings with a tail, that look the same from one place on until the shorter one ends.
+CHAIN_OF_SIX = (6, [0, 1, 1, 2, 2, 3, 3, 4, 4, 5])
+CHAIN_OF_SEVEN = (7, [0, 1, 1, 2, 2, 3, 3, 4, 4, 5, 5, 6])
+TAILED_RING_OF_SIX = (6, [4, 5, 3, 4, 2, 3, 1, 2, 0, 1, 4, 0])
+TAILED_RING_OF_SEVEN = (7, [5, 6, 5, 0, 0, 1, 1, 2, 2, 3, 3, 4, 4, 5])
+LATE_PAIRS = (CHAIN_OF_SIX, CHAIN_OF_SEVEN, TAILED_RING_OF_SIX, TAILED_RING_OF_SEVEN)
+
 # Nets that take some steps: a ring without a mark near by, and a chain of which only the middle tells both ends apart.
 RING_OF_SEVEN = (7, [0, 1, 1, 2, 2, 3, 3, 4, 4, 5, 5, 6, 6, 0])
 LATE_CHAIN = (7, [0, 1, 1, 2, 2, 3, 5, 6, 4, 5, 3, 4])
@@ -119,24 +129,27 @@ def seen_by_words(net, u, word):
     return numbers
 
 
-def apart_by_pairs(net, u, v):
-    """In how few steps u and v are told apart (None: never); both are walked side by side, by every letter."""
-    ways = {}
+def two_by_pairs(net, u, second, v):
+    """In how few steps u of a net and v of a second are told apart (None: never); both are walked side by side."""
+    ways = {place: exits_by_words(net, place) for place in {u, *net}}
+    second_ways = {place: exits_by_words(second, place) for place in {v, *second}}
     met = {(u, v)}
     level = [(u, v)]
     steps = 0
     while level:
-        for place in set(itertools.chain.from_iterable(level)):
-            ways.setdefault(place, exits_by_words(net, place))
-        if any(len(ways[a]) != len(ways[b]) for a, b in level):
+        if any(len(ways[a]) != len(second_ways[b]) for a, b in level):
             return steps
-        onward = [way for a, b in level for way in zip(ways[a], ways[b])]
+        onward = [way for a, b in level for way in zip(ways[a], second_ways[b])]
         if any(one[1] != other[1] for one, other in onward):
             return steps + 1
         level = sorted({(one[0], other[0]) for one, other in onward} - met)
         met.update(level)
         steps += 1
     return None
+
+
+def apart_by_pairs(net, u, v):
+    return two_by_pairs(net, u, net, v)
 
 
 def classes_by_pairs(n, net):
@@ -199,6 +212,14 @@ def small_nets():
             if is_net_by_words(4, net):
                 yield 4, net
                 yield 4, net[::-1]
+
+
+def different_small_nets():
+    """The small nets, of those that have the same exits only the first."""
+    found = {}
+    for n, net in small_nets():
+        found.setdefault(str([exits_by_words(net, u) for u in range(n)]), (n, net))
+    return list(found.values())
 
 
 class Unchangeable(list):
